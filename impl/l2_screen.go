@@ -127,7 +127,7 @@ func Feed(s Screen, b []byte) Screen {
 	fed := copyScreen(s)
 	whole := withinGrid(func() {
 		d := decoder{show: fed.show, obey: fed.obey}
-		d.read(s.Hold, b)
+		readAll(d.start(), s.Hold, b)
 		fed.Hold = d.held
 	})
 	if !whole {
@@ -151,20 +151,57 @@ func copyScreen(s Screen) Screen {
 // the next one.
 type step func(b byte) step
 
-// decoder parts bytes into runes and sequences and hands each of them on.
-type decoder struct {
-	held []byte
-	show func(r rune)
-	obey func(between []byte, last byte)
-}
-
-func (d *decoder) read(pieces ...[]byte) {
-	state := d.start()
+func readAll(state step, pieces ...[]byte) {
 	for _, piece := range pieces {
 		for _, b := range piece {
 			state = state(b)
 		}
 	}
+}
+
+// holder keeps the bytes of what is begun and not finished. A decoder that reads
+// them anew comes to the same state.
+type holder struct {
+	held []byte
+}
+
+func (h *holder) hold(b byte) {
+	h.held = append(h.held, b)
+}
+
+func (h *holder) release() []byte {
+	held := h.held
+	h.held = nil
+	return held
+}
+
+// runeState is the state in which bytes come together to a rune; ground is the
+// one behind it.
+func (h *holder) runeState(ground step, found func(r rune)) step {
+	var begun step
+	begun = func(b byte) step {
+		h.hold(b)
+		if !utf8.FullRune(h.held) {
+			return begun
+		}
+		held := h.release()
+		r, size := utf8.DecodeRune(held)
+		found(r)
+		// Behind a byte that begins no rune there may be others, to be looked at anew.
+		next := ground
+		for _, again := range held[size:] {
+			next = next(again)
+		}
+		return next
+	}
+	return begun
+}
+
+// decoder parts bytes into runes and sequences and hands each of them on.
+type decoder struct {
+	holder
+	show func(r rune)
+	obey func(between []byte, last byte)
 }
 
 // start ties the states together and gives the one in which nothing is held.
@@ -177,6 +214,7 @@ func (d *decoder) start() step {
 		}
 		return begun(b)
 	}
+	begun = d.runeState(ground, d.show)
 	escaped = func(b byte) step {
 		if b != '[' {
 			d.release()
@@ -186,42 +224,26 @@ func (d *decoder) start() step {
 		return between
 	}
 	between = func(b byte) step {
-		if '0' <= b && b <= '?' && len(d.held) < maxHold {
+		if isBetween(b) && len(d.held) < maxHold {
 			d.hold(b)
 			return between
 		}
 		held := d.release()
-		if '@' <= b && b <= '~' {
+		if isLast(b) {
 			d.obey(held[2:], b)
 		}
 		return ground
 	}
-	begun = func(b byte) step {
-		d.hold(b)
-		if !utf8.FullRune(d.held) {
-			return begun
-		}
-		held := d.release()
-		r, size := utf8.DecodeRune(held)
-		d.show(r)
-		// Behind a byte that begins no rune there may be others, to be looked at anew.
-		next := ground
-		for _, again := range held[size:] {
-			next = next(again)
-		}
-		return next
-	}
 	return ground
 }
 
-func (d *decoder) hold(b byte) {
-	d.held = append(d.held, b)
+// isBetween says whether a byte may stand between ESC [ and a sequence's last one.
+func isBetween(b byte) bool {
+	return '0' <= b && b <= '?'
 }
 
-func (d *decoder) release() []byte {
-	held := d.held
-	d.held = nil
-	return held
+func isLast(b byte) bool {
+	return '@' <= b && b <= '~'
 }
 
 func (s *Screen) show(r rune) {
