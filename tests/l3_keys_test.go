@@ -288,13 +288,12 @@ func checkKeys(t *testing.T, d impl.KeyReader, b []byte) {
 	checkTick(t, one)
 }
 
-func checkTick(t *testing.T, d impl.KeyReader) {
-	t.Helper()
-	want := impl.KeyReader{}
+// plainTick is chapter 3's Tick.
+func plainTick(d impl.KeyReader) (impl.KeyReader, []impl.Key) {
 	var keys []impl.Key
 	switch {
 	case d.Paste || len(d.Hold) == 0:
-		want = d
+		return d, nil
 	case d.Hold[0] != 27:
 		for range d.Hold {
 			keys = append(keys, impl.Key{Kind: impl.KeyRune, Runes: []int32{0xfffd}})
@@ -304,9 +303,15 @@ func checkTick(t *testing.T, d impl.KeyReader) {
 	default:
 		keys = kindNamed("other")
 	}
+	return impl.KeyReader{}, keys
+}
+
+func checkTick(t *testing.T, d impl.KeyReader) {
+	t.Helper()
+	want := toldReading(plainTick(d))
 	got, some := impl.Tick(d)
-	if toldReading(got, some) != toldReading(want, keys) {
-		t.Fatalf("Tick of %+v: %s, not %s", d, toldReading(got, some), toldReading(want, keys))
+	if toldReading(got, some) != want {
+		t.Fatalf("Tick of %+v: %s, not %s", d, toldReading(got, some), want)
 	}
 	if !got.Paste && len(got.Hold) > 0 {
 		t.Fatalf("Tick of %+v leaves %q", d, got.Hold)
